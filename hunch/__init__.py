@@ -1,0 +1,1 @@
+"""Hunch: programs run by rows that are made on guesses."""
