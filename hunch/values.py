@@ -1,6 +1,8 @@
 """Values of two kinds, and what the signs make of two of them."""
 
 SIGNS = ("add", "sub", "less", "same")
+# Of two values of unlike kinds these make nothing.
+LIKE_SIGNS = ("add", "sub", "less")
 MODULUS = 10007
 MOST_LETTERS = 12
 

@@ -1,26 +1,13 @@
 """Points [4] and [6]: programs, and their rows place by place."""
 
-import random
 import unittest
 
+from helper import Maker, all_tuples, number, row
 from hunch.codes import coded
 
 NOTHING = ("row", ())
 A = ("name", "a")
 SAY_A = ("say", A)
-
-
-def row(*parts):
-    return ("row", parts)
-
-
-def number(n):
-    return ("num", n)
-
-
-def all_tuples(thing):
-    return isinstance(thing, (int, str)) or (
-        type(thing) is tuple and all(all_tuples(part) for part in thing))
 
 
 class Coded(unittest.TestCase):
@@ -284,35 +271,6 @@ class Decoder:
             self.place += 1
         assert len(half) == 1
         return half[0]
-
-
-class Maker:
-    """Makes programs within the limits, the same ones in each run."""
-
-    def __init__(self, seed):
-        self.chance = random.Random(seed)
-
-    def expression(self, deep):
-        if deep == 1 or self.chance.random() < 0.4:
-            return self.chance.choice(
-                [("num", self.chance.randrange(10000)), ("text", "ab"), ("text", ""),
-                 ("name", self.chance.choice("abcdefgh"))])
-        sign = self.chance.choice(("add", "sub", "less", "same"))
-        return (sign, self.expression(deep - 1), self.expression(deep - 1))
-
-    def row(self, deep):
-        return ("row", tuple(self.statement(deep) for _ in range(self.chance.randrange(4))))
-
-    def statement(self, deep):
-        word = self.chance.choice(("say", "set", "if", "while") if deep else ("say", "set"))
-        value = self.expression(5)
-        if word == "say":
-            return ("say", value)
-        if word == "set":
-            return ("set", self.chance.choice("abcdefgh"), value)
-        if word == "if":
-            return ("if", value, self.row(deep - 1), self.row(deep - 1))
-        return ("while", value, self.row(deep - 1))
 
 
 class ManyPrograms(unittest.TestCase):

@@ -25,6 +25,15 @@ BARRED_WORDS = set("""
     type typing typing_extensions enum Enum IntEnum StrEnum Flag IntFlag Generic Protocol ABC
     ABCMeta namedtuple NamedTuple TypedDict TYPE_CHECKING abstractmethod
     """.split())
+BARRED_NAMES = set("""
+    register mro elements open input version_info with_traceback add_note attrgetter breakpoint
+    builtins compile copyright credits delattr dir eval exec exit gc getattr globals hasattr help id
+    importlib license locals methodcaller os quit setattr super type vars sys
+    """.split())
+BARRED_ATTRIBUTES = set("""
+    items keys values pop update append clear extend insert remove reverse setdefault sort args
+    encode decode hex fromhex format format_map mro
+    """.split())
 BARRED_PARTS = ("dataclass", "overload", "contextmanager")
 BARRED_NODES = (
     ast.Global, ast.AsyncFunctionDef, ast.AsyncFor, ast.AsyncWith, ast.Await, ast.Import, ast.Div)
@@ -62,6 +71,18 @@ def methods_of(tree):
     """The functions that stand in the body of a class."""
     return [part for node in ast.walk(tree) if isinstance(node, ast.ClassDef)
             for part in node.body if isinstance(part, ast.FunctionDef)]
+
+
+def attributes_assigned(tree):
+    """The names of attributes that a file assigns."""
+    return {node.attr for node in ast.walk(tree)
+            if isinstance(node, ast.Attribute) and isinstance(node.ctx, ast.Store)}
+
+
+def imported_files(path):
+    """The names of the package's files that one of them imports from."""
+    return {node.module.partition(".")[2] for node in ast.walk(parsed(path))
+            if isinstance(node, ast.ImportFrom) and node.module != "__future__"}
 
 
 class Rules(unittest.TestCase):
@@ -132,6 +153,51 @@ class Rules(unittest.TestCase):
         for place, node in walked_files():
             if isinstance(node, ast.Call) and isinstance(node.func, ast.Attribute):
                 self.assertIn(node.func.attr, METHODS | own, place)
+
+    def test_names_that_are_not_used(self):
+        for path in package_files():
+            for name, line in bound_names(parsed(path)):
+                self.assertNotIn(name, BARRED_NAMES, (path.name, line))
+
+    def test_methods_and_attributes_have_names_of_their_own(self):
+        trees = [parsed(path) for path in package_files()]
+        methods = {method.name for tree in trees for method in methods_of(tree)}
+        attributes = set().union(*[attributes_assigned(tree) for tree in trees])
+        self.assertFalse(methods & attributes)
+        self.assertFalse(attributes & BARRED_ATTRIBUTES)
+        for place, node in walked_files():
+            if isinstance(node, ast.Attribute):
+                self.assertIn(node.attr, methods | attributes | METHODS, place)
+
+    def test_no_files_import_from_each_other(self):
+        left = {path.stem: imported_files(path) for path in package_files()}
+        while left:
+            free = [name for name in left if not left[name] & set(left)]
+            self.assertTrue(free, left)
+            for name in free:
+                del left[name]
+
+    def test_each_import_names_the_file_that_defines_it(self):
+        for place, node in walked_files():
+            if isinstance(node, ast.ImportFrom) and node.module != "__future__":
+                tree = parsed(PACKAGE / (node.module.partition(".")[2] + ".py"))
+                own = {part.name for part in tree.body
+                       if isinstance(part, (ast.FunctionDef, ast.ClassDef))}
+                own |= {target.id for part in tree.body if isinstance(part, ast.Assign)
+                        for target in part.targets}
+                self.assertLessEqual({alias.name for alias in node.names}, own, place)
+
+    def test_no_local_name_is_that_of_a_class_or_an_import(self):
+        for path in package_files():
+            tree = parsed(path)
+            taken = {node.name for node in tree.body if isinstance(node, ast.ClassDef)}
+            taken |= {alias.name for node in tree.body if isinstance(node, ast.ImportFrom)
+                      for alias in node.names}
+            for node in ast.walk(tree):
+                if isinstance(node, ast.arg):
+                    self.assertNotIn(node.arg, taken, (path.name, node.lineno))
+                if isinstance(node, ast.Name) and isinstance(node.ctx, ast.Store):
+                    self.assertNotIn(node.id, taken, (path.name, node.lineno))
 
     def test_is_stands_beside_none_true_and_false(self):
         for place, node in walked_files():
