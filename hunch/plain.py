@@ -57,15 +57,21 @@ def do_sign(sign, state):
 
 
 def do_top(state):
-    """Counts a turn, or ends dry where none is left."""
+    """Counts a turn and goes on, or ends dry."""
+    if took_turn(state):
+        state.stand(state.place + 1)
+
+
+def took_turn(state):
+    """Counts a turn; where none is left it ends dry instead, and False is given."""
     if state.left > 0:
         state.left -= 1
-        state.stand(state.place + 1)
-    else:
-        # Not one less than it is: a run that ended dry has -1 left, though
-        # the row is done once more, or the run began with fewer than none.
-        state.left = -1
-        state.last = ("dry",)
+        return True
+    # Not one less than it is: a run that ended dry has -1 left, though
+    # the row is done once more, or the run began with fewer than none.
+    state.left = -1
+    state.last = ("dry",)
+    return False
 
 
 def do_unless(target, state):

@@ -28,10 +28,14 @@ def all_tuples(thing):
         type(thing) is tuple and all(all_tuples(part) for part in thing))
 
 
+def seen_of(state):
+    """All that a state tells, as long as it isn't changed."""
+    return state.place, state.names, state.stack, state.left, state.said, state.last
+
+
 def told_of(state):
     """All that a state tells, as a copy of its own."""
-    return copy.deepcopy((
-        state.place, state.names, state.stack, state.left, state.said, state.last))
+    return copy.deepcopy(seen_of(state))
 
 
 class Maker:
@@ -129,6 +133,58 @@ class LivelyMaker:
         return self.row(4, 6)
 
 
+class RestlessMaker:
+    """Makes programs whose whiles run long, while d to h change their kinds and their ways."""
+
+    def __init__(self, seed):
+        self.chance = random.Random(seed)
+
+    def names(self):
+        return {x: self.chance.choice((0, 1, 7, "", "ab")) for x in "defgh" if self.chance.random() < 0.8}
+
+    def some(self):
+        return self.chance.choice("defgh")
+
+    def value(self):
+        """Mostly one that makes something whatever its names have."""
+        sign = self.chance.choice(("add", "sub", "less", "same"))
+        one, two = name(self.some()), name(self.some())
+        which = self.chance.random()
+        if which < 0.02:
+            return (sign, one, two)
+        if which < 0.4:
+            return (sign, one, one)
+        if which < 0.6:
+            return ("add", (sign, number(1), number(self.chance.randrange(3))), ("same", one, two))
+        if which < 0.8:
+            return one
+        return number(self.chance.randrange(3)) if which < 0.9 else text(self.chance.choice(("", "x")))
+
+    def parts(self, deep):
+        return tuple(part for _ in range(self.chance.randrange(5)) for part in self.statements(deep))
+
+    def statements(self, deep):
+        word = self.chance.choice(("say", "set", "set", "swap", "if", "while"))
+        if word == "while" and deep < 3:
+            return self.loop(deep)
+        if word == "if" and deep < 5:
+            return [("if", self.value(), row(*self.parts(deep + 1)), row(*self.parts(deep + 1)))]
+        if word == "swap":
+            x, y, z = self.chance.sample("defgh", 3)
+            return [("set", z, name(x)), ("set", x, name(y)), ("set", y, name(z))]
+        return [("say", self.value()) if word == "say" else ("set", self.some(), self.value())]
+
+    def loop(self, deep):
+        x = "abc"[deep]
+        up = ("set", x, ("add", name(x), number(1)))
+        return [("set", x, number(0)),
+                ("while", ("less", name(x), number(self.chance.randrange(2, 30))),
+                 row(*self.parts(deep + 1), up, *self.parts(deep + 1)))]
+
+    def program(self):
+        return row(*self.loop(0), *self.parts(0), *self.loop(0))
+
+
 class Over(Exception):
     """A run by the program itself has ended."""
 
@@ -203,3 +259,61 @@ def rows_of(part):
         return sum(rows_of(inner) for inner in part[1])
     own = {"if": 2, "while": 3}.get(part[0], 1)
     return own + sum(rows_of(inner) for inner in part[1:] if isinstance(inner, tuple))
+
+
+def fall_back(state, slots, way_out):
+    place, names, half = way_out
+    for x, slot in names:
+        state.names[x] = slots[slot]
+    state.stack[:] = [slots[slot] for slot in half]
+    state.stand(place)
+
+
+def run_made(rows, state):
+    """Runs quick rows by point [9] alone; the place of the row by which they fell back, or -1."""
+    slots, at, top = {}, 0, state.place
+    while True:
+        here = rows[at]
+        word = here[0]
+        at += 1
+        if word == "turn":
+            if state.left == 0:
+                state.left, state.last = -1, ("dry",)
+                state.stand(top)
+                return -1
+            state.left -= 1
+        elif word in ("num", "text"):
+            slots[here[1]] = here[2]
+        elif word == "get":
+            slots[here[1]] = state.names.get(here[2], 0)
+        elif word in ("is", "so"):
+            value = slots[here[1]]
+            holds = isinstance(value, str) == (here[2] == "t") if word == "is" else bool(value) == here[2]
+            if not holds:
+                fall_back(state, slots, here[3])
+                return at - 1
+        elif word == "say":
+            state.said.append(slots[here[1]])
+        elif word == "put":
+            state.names[here[1]] = slots[here[2]]
+        elif word == "again":
+            at = 0
+        elif word == "leave":
+            fall_back(state, slots, here[1])
+            return at - 1
+        else:
+            one, two = slots[here[3]], slots[here[4]]
+            kinds = {"t" if isinstance(value, str) else "n" for value in (one, two)}
+            assert here[1] == "any" if word == "same" else kinds == {here[1]}, here
+            slots[here[2]] = worked(word, one, two)
+
+
+def guessed(code, chance):
+    """Guesses for all places, by chance; some are lacking."""
+    kinds, ways = {}, {}
+    for place in range(len(code)):
+        if chance.random() < 0.9:
+            kinds[place] = chance.choice((("n", "n"), ("t", "t")) * 3 + (("n", "t"), ("t", "n")))
+        if chance.random() < 0.9:
+            ways[place] = chance.random() < 0.7
+    return kinds, ways

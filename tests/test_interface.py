@@ -11,10 +11,13 @@ FUNCTIONS = {
     "values.kind_of": "value", "values.is_so": "value", "values.worked": "sign one two",
     "codes.coded": "program",
     "plain.do_row": "code state", "plain.walked": "code names most",
-    "making.quick_rows": "code top notes most"}
+    "making.quick_rows": "code top notes most", "quick.run_quick": "rows state",
+    "reading.program_text": "program", "reading.read_program": "text"}
 CLASSES = {
     "plain.State": ("names most", {"stand": "place"}),
-    "notes.Notes": ("kinds ways", {"see": "code state", "count": "top", "forget": "top"})}
+    "notes.Notes": ("kinds ways", {"see": "code state", "count": "top", "forget": "top"}),
+    "machine.Machine": ("code names most limits", {
+        "hint": "kinds ways", "finish": "", "told": "", "names_now": "", "counts": ""})}
 
 
 def found(path):
@@ -36,7 +39,7 @@ class Interface(unittest.TestCase):
             self.assertEqual(arguments(found(path)), wanted, path)
             for method, told in methods.items():
                 self.assertIn(method, vars(found(path)), path)
-                self.assertEqual(arguments(vars(found(path))[method]), "self " + told, path)
+                self.assertEqual(arguments(vars(found(path))[method]), f"self {told}".strip(), path)
 
     def test_attributes_are_set_on_each_object(self):
         self.assertLessEqual({"names", "stack", "place", "left", "said", "last"}, set(vars(State({}, 0))))

@@ -4,13 +4,13 @@ import copy
 import random
 import unittest
 
-from helper import LivelyMaker, all_tuples, name, number, row, text, told_of
+from helper import (
+    LivelyMaker, all_tuples, guessed, name, number, row, run_made, seen_of, text, told_of)
 from hunch.codes import coded
 from hunch.errors import HunchError, NoTop
 from hunch.making import quick_rows
 from hunch.notes import Notes
 from hunch.plain import State, do_row
-from hunch.values import worked
 
 A, B, C = name("a"), name("b"), name("c")
 NN, TT, NT, TN = ("n", "n"), ("t", "t"), ("n", "t"), ("t", "n")
@@ -443,64 +443,6 @@ class NoTops(unittest.TestCase):
                 quick_rows(coded(row()), 0, Notes({}, {}), most)
 
 
-def fall_back(state, slots, way_out):
-    place, names, half = way_out
-    for x, slot in names:
-        state.names[x] = slots[slot]
-    state.stack[:] = [slots[slot] for slot in half]
-    state.stand(place)
-
-
-def run_made(rows, state):
-    """Runs quick rows by point [9] alone; whether it went on in plain rows."""
-    slots, at, top = {}, 0, state.place
-    while True:
-        here = rows[at]
-        word = here[0]
-        at += 1
-        if word == "turn":
-            if state.left == 0:
-                state.left, state.last = -1, ("dry",)
-                state.stand(top)
-                return False
-            state.left -= 1
-        elif word in ("num", "text"):
-            slots[here[1]] = here[2]
-        elif word == "get":
-            slots[here[1]] = state.names.get(here[2], 0)
-        elif word in ("is", "so"):
-            value = slots[here[1]]
-            holds = isinstance(value, str) == (here[2] == "t") if word == "is" else bool(value) == here[2]
-            if not holds:
-                fall_back(state, slots, here[3])
-                return True
-        elif word == "say":
-            state.said.append(slots[here[1]])
-        elif word == "put":
-            state.names[here[1]] = slots[here[2]]
-        elif word == "again":
-            at = 0
-        elif word == "leave":
-            fall_back(state, slots, here[1])
-            return True
-        else:
-            one, two = slots[here[3]], slots[here[4]]
-            kinds = {"t" if isinstance(value, str) else "n" for value in (one, two)}
-            assert here[1] == "any" if word == "same" else kinds == {here[1]}, here
-            slots[here[2]] = worked(word, one, two)
-
-
-def guessed(code, chance):
-    """Guesses for all places, by chance; some are lacking."""
-    kinds, ways = {}, {}
-    for place in range(len(code)):
-        if chance.random() < 0.9:
-            kinds[place] = chance.choice((NN, NN, NN, TT, TT, TT, NT, TN))
-        if chance.random() < 0.9:
-            ways[place] = chance.random() < 0.7
-    return Notes(kinds, ways)
-
-
 class ManyPrograms(unittest.TestCase):
     def form(self, rows):
         """The rows are of the form that point [9] tells."""
@@ -522,13 +464,13 @@ class ManyPrograms(unittest.TestCase):
     def comes_to_the_same(self, code, rows, state):
         """Plain rows from the state come to where quick rows do from there."""
         quick, plain = copy.deepcopy(state), copy.deepcopy(state)
-        went_on = run_made(rows, quick)
+        by = run_made(rows, quick)
         wanted = told_of(quick)
         do_row(code, plain)
-        while told_of(plain) != wanted:
+        while seen_of(plain) != wanted:
             self.assertIsNone(plain.last, (rows, wanted))
             do_row(code, plain)
-        self.assertEqual(went_on, quick.last is None)
+        self.assertEqual(by == -1, quick.last is not None)
 
     def test_by_what_was_noted(self):
         ends = {"again": 0, "leave": 0}
@@ -555,7 +497,7 @@ class ManyPrograms(unittest.TestCase):
             state = State(maker.names(), 40)
             while state.last is None:
                 if code[state.place] == ("top",) and chance.random() < 0.2:
-                    rows = quick_rows(code, state.place, guessed(code, chance), 200)
+                    rows = quick_rows(code, state.place, Notes(*guessed(code, chance)), 200)
                     self.form(rows)
                     self.comes_to_the_same(code, rows, state)
                 do_row(code, state)

@@ -2,7 +2,7 @@
 
 import unittest
 
-from helper import LivelyMaker, Maker, TreeRun, name, number, row, text, told_of
+from helper import LivelyMaker, Maker, RestlessMaker, TreeRun, name, number, row, text, told_of
 from hunch.codes import coded
 from hunch.plain import State, do_row, walked
 
@@ -347,6 +347,11 @@ class ManyPrograms(unittest.TestCase):
             ends[self.check(maker.program(), maker.names(), maker.chance.choice((5, 60, 300)))] += 1
         for end, often in ends.items():
             self.assertGreater(often, 40, end)
+
+    def test_programs_whose_kinds_change(self):
+        for seed in range(40):
+            maker = RestlessMaker(seed)
+            self.check(maker.program(), maker.names(), maker.chance.choice((20, 100)))
 
 
 if __name__ == "__main__":
